@@ -29,6 +29,23 @@ def gone(table, first, second):
     return call(3, [table, first, second], [])
 
 
+def claim(atoms, settled=()):
+    return call(4, [], [atoms, settled])
+
+
+def own():
+    return call(5, [], [])
+
+
+def sure(values, *steps):
+    return call(6, [], [values, *steps])
+
+
+def proves_not(*facts):
+    """Each of the facts is its numbers; what they are joined to is handed in."""
+    return call(7, [], [joined(facts)])
+
+
 def joined(calls):
     return [number for one in calls for number in one]
 
@@ -43,6 +60,11 @@ def asked(*calls):
         each.append(told[at + 1:at + 1 + length])
         at += 1 + length
     return each
+
+
+def last(*calls):
+    """What the last of the calls answers."""
+    return asked(*calls)[-1]
 
 
 def firsts(*calls):

@@ -56,6 +56,16 @@ def bound_names(tree):
             yield node.attr
 
 
+def parents(tree):
+    """Of every part of a file the part that it straight stands in."""
+    return {part: node for node in ast.walk(tree) for part in ast.iter_child_nodes(node)}
+
+
+def called(node):
+    """The name of what is called, if it's called by a name alone."""
+    return node.func.id if isinstance(node, ast.Call) and isinstance(node.func, ast.Name) else None
+
+
 class Form(unittest.TestCase):
 
     def sources(self):
@@ -120,6 +130,76 @@ class Form(unittest.TestCase):
                     self.assertEqual(node.level, 0, name)
                     self.assertRegex(node.module, r"^believed\.", name)
                     self.assertNotIn("*", [each.name for each in node.names], name)
+
+    def test_imports_are_from_the_file_that_defines_the_name_and_go_no_round(self):
+        defined = {}
+        drawn = {}
+        for name, tree in self.trees():
+            module = "believed." + name[:-3]
+            defined[module] = {node.name for node in tree.body if isinstance(node, (ast.FunctionDef, ast.ClassDef))}
+            defined[module].update(node.targets[0].id for node in tree.body if isinstance(node, ast.Assign))
+            drawn[module] = [node for node in tree.body if isinstance(node, ast.ImportFrom)]
+        self.assertEqual((defined["believed.__init__"], drawn["believed.__init__"]), (set(), []))
+        for module, rows in drawn.items():
+            for row in rows:
+                for each in row.names:
+                    self.assertIn(each.name, defined[row.module], module)
+                    self.assertIsNone(each.asname, module)
+        ready = set()
+        for turn in drawn:
+            ready.update(module for module, rows in drawn.items() if {row.module for row in rows} <= ready)
+        self.assertEqual(ready, set(drawn))
+
+    def test_what_is_imported_is_used(self):
+        for name, tree in self.trees():
+            used = {node.id for node in ast.walk(tree) if isinstance(node, ast.Name)}
+            for node in tree.body:
+                if isinstance(node, ast.ImportFrom):
+                    self.assertEqual([each.name for each in node.names if each.name not in used], [], name)
+
+    def test_no_local_is_called_like_a_name_of_the_files_top(self):
+        for name, tree in self.trees():
+            top = {node.name for node in tree.body if isinstance(node, (ast.FunctionDef, ast.ClassDef))}
+            top.update(node.targets[0].id for node in tree.body if isinstance(node, ast.Assign))
+            top.update(each.name for node in tree.body if isinstance(node, ast.ImportFrom) for each in node.names)
+            for node in ast.walk(tree):
+                if isinstance(node, ast.FunctionDef):
+                    own = set(bound_names(ast.Module(body=node.body, type_ignores=[])))
+                    own.update(each.arg for each in node.args.args)
+                    self.assertEqual(sorted(own & top), [], f"{name}:{node.lineno}")
+
+    def test_classes_are_only_called(self):
+        classes = {node.name for name, tree in self.trees() for node in tree.body if isinstance(node, ast.ClassDef)}
+        for name, tree in self.trees():
+            above = parents(tree)
+            for node in ast.walk(tree):
+                if isinstance(node, ast.Name) and node.id in classes:
+                    self.assertEqual(called(above[node]), node.id, f"{name}:{node.lineno}")
+
+    def test_is_stands_beside_none_true_and_false(self):
+        for name, tree in self.trees():
+            for node in ast.walk(tree):
+                if isinstance(node, ast.Compare) and isinstance(node.ops[0], (ast.Is, ast.IsNot)):
+                    self.assertIsInstance(node.comparators[0], ast.Constant, f"{name}:{node.lineno}")
+                    self.assertIn(node.comparators[0].value, (None, True, False), f"{name}:{node.lineno}")
+
+    def test_sets_are_not_kept(self):
+        for name, tree in self.trees():
+            above = parents(tree)
+            for node in ast.walk(tree):
+                self.assertNotIsInstance(node, ast.Set, name)
+                if called(node) in ("set", "frozenset"):
+                    self.assertIn(called(above[node]), ("sorted", "len"), f"{name}:{node.lineno}")
+
+    def test_what_is_walked_is_walked_at_once(self):
+        walkers = ("list", "tuple", "dict", "sorted", "sum", "any", "all", "enumerate", "zip", "min", "max")
+        for name, tree in self.trees():
+            above = parents(tree)
+            for node in ast.walk(tree):
+                if called(node) in ("zip", "enumerate", "reversed", "range"):
+                    by = above[node]
+                    walked = isinstance(by, (ast.For, ast.comprehension)) and by.iter is node
+                    self.assertTrue(walked or called(by) in walkers, f"{name}:{node.lineno}")
 
     def test_names_of_pythons_own(self):
         for name, tree in self.trees():

@@ -5,7 +5,7 @@ import io
 import unittest
 
 from believed.house import answers
-from tests.spelling import LARGEST, begins, fact, gone, joined, rule
+from tests.spelling import LARGEST, begins, claim, fact, gone, joined, own, proves_not, rule, sure
 
 
 class Spelling(unittest.TestCase):
@@ -26,6 +26,38 @@ class Spelling(unittest.TestCase):
     def test_gone(self):
         self.assertEqual(answers([3, 3, 3, 19, 0, 0]), [1, -2])
 
+    def test_claim(self):
+        self.assertEqual(answers([4, 0, 2, 3, 0, 0, 1, 2, 1, 19]), [1, 0])
+        self.assertEqual(answers([4, 0, 2, 6, 0, 0, 1, 3, 4, 4, 0]), [1, 0])
+        self.assertEqual(answers([4, 0, 2, 3, 0, 0, 1, 1, 0]), [1, -1])
+
+    def test_claim_of_empty_lists(self):
+        self.assertEqual(answers([4, 0, 2, 0, 0]), [1, -1])
+
+    def test_own(self):
+        self.assertEqual(answers([5, 0, 0]), [2, 1, 0])
+
+    def test_own_with_steps(self):
+        self.assertEqual(
+            answers([2, 3, 0, 1, 2, 0, 1, 0, 2, 3, 0, 0, 1, 3, 1, 1, 2, 4, 0, 2, 3, 1, 0, 1, 2, 0, 2, 5, 0, 0]),
+            [1, 1, 1, 0, 1, 0, 10, 1, 1, 0, 2, 1, 2, 1, 100, 2, 100])
+
+    def test_own_with_facts(self):
+        self.assertEqual(answers([2, 3, 3, 1, 2, 0, 2, 3, 0, 4, 5, 0, 4, 0, 2, 3, 1, 0, 1, 0, 5, 0, 0]),
+                         [1, 1, 1, 2, 1, 0, 8, 0, 2, 0, 4, 5, 3, 1, 2])
+
+    def test_sure(self):
+        self.assertEqual(answers([6, 0, 1, 0]), [1, 0])
+        self.assertEqual(answers([6, 0, 1, 2, 7, 8]), [1, 4])
+        self.assertEqual(answers([6, 0, 3, 1, 7, 2, 0, 0, 0]), [1, -1])
+        self.assertEqual(answers([6, 0, 3, 1, 7, 2, 0, 0, 3, 0, 0, 100]), [2, 1, 0])
+
+    def test_proves_not(self):
+        self.assertEqual(answers([7, 0, 1, 0]), [1, 3])
+        self.assertEqual(answers([7, 0, 1, 3, 3, 4294967295, 0]), [1, 3])
+        self.assertEqual(answers([7, 0, 1, 4, 3, 4294967295, 0, 3]), [1, -1])
+        self.assertEqual(answers([2, 3, 2, 7, 8, 0, 7, 0, 1, 0]), [1, 1, 4, 1, 2, 7, 8])
+
     def test_one_behind_another(self):
         self.assertEqual(
             answers([2, 3, 0, 1, 2, 0, 1, 0, 2, 3, 0, 0, 1, 3, 1, 1, 2, 3, 3, 0, 1, 2, 0, 0, 0, 0,
@@ -42,8 +74,11 @@ class WholeProgram(unittest.TestCase):
     def setUp(self):
         self.calls = joined([
             rule([0, 0, 1], [1, 1, 2]), fact(0, 1, 2), fact(0, 1, 2), rule([], []), gone(0, 1, 2), gone(0, 1, 2),
-            fact(3, 19, 19), begins(), fact(3, 19, 19), rule([3, 4, 4, 0, 0, 0], [2, 2, 2, 1, 1, 1])])
-        self.told = [1, 0, 1, 1, 1, -4, 1, -1, 1, 0, 1, -2, 1, 1, 1, 0, 1, 1, 1, 0]
+            fact(3, 19, 19), begins(), fact(3, 19, 19), rule([3, 4, 4, 0, 0, 0], [2, 2, 2, 1, 1, 1]),
+            claim([3, 0, 1, 3, 1, 2], [2, 19]), own(), sure([19, 19, 19]), sure([], [0, 2, 0, 0, 100, 101]),
+            sure([], []), proves_not([3, 19, 19]), proves_not([0, 0, 0], [3, 19, 19]), proves_not([0])])
+        self.told = [1, 0, 1, 1, 1, -4, 1, -1, 1, 0, 1, -2, 1, 1, 1, 0, 1, 1, 1, 0,
+                     1, 0, 5, 1, 0, 19, 19, 19, 1, 0, 2, 2, 0, 1, -1, 4, 3, 19, 19, 19, 4, 2, 0, 19, 0, 1, -1]
 
     def test_what_is_handed_in_is_as_it_was(self):
         before = list(self.calls)

@@ -35,7 +35,7 @@ class RuleIsTaken(unittest.TestCase):
     def test_what_is_kept_is_body_and_head(self):
         house = House()
         house.give_rule(TWO, [2, 4, 0])
-        self.assertEqual(house.rules, [([(0, 0, 1), (3, 1, 2)], [(2, 4, 0)])])
+        self.assertEqual([(kept.body, kept.head) for kept in house.rules], [([(0, 0, 1), (3, 1, 2)], [(2, 4, 0)])])
 
     def test_facts_do_not_count(self):
         self.assertEqual(firsts(*[fact(0, k, 0) for k in range(5)], rule(ATOM, ATOM)), [1, 2, 3, 4, 5, 0])
